@@ -1,4 +1,4 @@
-// Package journal keeps a journal on a volume: a head in its first block, and records in those behind it.
+// Package journal keeps a journal on a volume: a head in its first block, and records in those behind it, one behind the other, up to a block that holds none.
 package journal
 
 import (
@@ -24,12 +24,68 @@ func Lay(v *volume.Volume) error {
 	})
 }
 
-// Find looks for a journal: ErrCorrupt, if there is none.
-func Find(v *volume.Volume) error {
-	return volume.Try(func() error {
+// Room is how many records a journal on a volume may have.
+func Room(v *volume.Volume) int { return v.Blocks() - (headAt + 1) }
+
+// Journal is one that was found.
+type Journal struct {
+	volume  *volume.Volume
+	end     int  // the block of the next record
+	settled bool // all records are sure, and noughts behind them
+}
+
+// Find reads the journal on a volume, and hands each saga to take, in the order in which they were added: ErrCorrupt, if there is none, or take says no. It changes nothing on the volume.
+func Find(v *volume.Volume, take func(s record.Saga) bool) (*Journal, error) {
+	j := &Journal{volume: v, end: headAt + 1}
+	err := volume.Try(func() error {
 		if v.Load(headAt) != record.Head(v.Blocks()) {
 			return api.ErrCorrupt
 		}
+		return j.read(take)
+	})
+	if err != nil {
+		return nil, err
+	}
+	return j, nil
+}
+
+// read goes on to the end of the records. That may be one that was cut off: then nothing was written behind it.
+func (j *Journal) read(take func(s record.Saga) bool) error {
+records:
+	for ; j.end < j.volume.Blocks(); j.end++ {
+		b := j.volume.Load(j.end)
+		switch s, ok := record.ReadSaga(b); {
+		case !record.Whole(b):
+			break records
+		case !ok || !take(s):
+			return api.ErrCorrupt
+		}
+	}
+	for i := j.end + 1; i < j.volume.Blocks(); i++ {
+		if j.volume.Load(i) != (record.Block{}) {
+			return api.ErrCorrupt
+		}
+	}
+	return nil
+}
+
+// Add adds a record, and makes sure of it. Behind an error nothing more may be added: of two records that are not sure a failure of power might leave the second one alone, and another one in the first one's place would bring it to light.
+func (j *Journal) Add(b record.Block) error {
+	return volume.Try(func() error {
+		j.settle()
+		j.volume.Store(j.end, b)
+		j.volume.Secure()
+		j.end++
 		return nil
 	})
+}
+
+// settle makes sure of what Find found, and wipes what was cut off behind it: sectors of that, and of a record in its place, could make up one that nobody added.
+func (j *Journal) settle() {
+	if j.settled {
+		return
+	}
+	j.volume.Store(j.end, record.Block{})
+	j.volume.Secure()
+	j.settled = true
 }

@@ -3,12 +3,13 @@ package record
 
 import "sagas/api"
 
-// kind tells records apart; it is the first byte of each.
+// kind tells records apart.
 type kind byte
 
 const (
-	_    kind = iota // a block of noughts holds no record
+	_    kind = iota // a sector of noughts is of no record
 	head             // there is a journal
+	saga             // a saga was taken
 )
 
 // mark is what no other device has by chance where a journal has its head.
@@ -36,4 +37,46 @@ func Head(blocks int) Block {
 	copy(b.Part(countAt, markAt-countAt), []byte{byte(blocks >> 8), byte(blocks)})
 	copy(b.Part(markAt, len(mark)), mark)
 	return b
+}
+
+// Every other record fills its block: the first byte of each sector is its kind, the rest of them is its body.
+const (
+	sectors = api.Block / api.Sector
+	share   = api.Sector - 1
+)
+
+// body is what a record says.
+type body [sectors * share]byte
+
+func (s *body) part(from, size int) []byte {
+	return s[from : from+size : from+size]
+}
+
+// laid puts a body into a block of noughts. Of a record that a failure of power cuts through, the sectors that are missing lack their kind.
+func laid(k kind, said body) Block {
+	var b Block
+	for i := range sectors {
+		b[i*api.Sector] = byte(k)
+		copy(b.Part(i*api.Sector+1, share), said.part(i*share, share))
+	}
+	return b
+}
+
+// read takes the body out of a block again.
+func read(b Block) body {
+	var said body
+	for i := range sectors {
+		copy(said.part(i*share, share), b.Part(i*api.Sector+1, share))
+	}
+	return said
+}
+
+// Whole: are all sectors of a record there? One that is not whole is none.
+func Whole(b Block) bool {
+	for i := range sectors {
+		if b[i*api.Sector] != byte(saga) {
+			return false
+		}
+	}
+	return true
 }

@@ -45,3 +45,16 @@ func TestHeadsDiffer(t *testing.T) {
 		seen[Head(n)] = n
 	}
 }
+
+func TestNoRecordIsWhole(t *testing.T) {
+	if Whole(Block{}) || Whole(Head(20)) {
+		t.Error("noughts, or a head, are taken for a record")
+	}
+	for i := range sectors {
+		b := laid(saga, body{})
+		b[i*api.Sector] = byte(head)
+		if Whole(b) {
+			t.Errorf("a record whose sector %d is of another kind is whole", i)
+		}
+	}
+}

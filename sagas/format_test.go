@@ -30,7 +30,7 @@ func TestP3FormatWantsAFitSize(t *testing.T) {
 func TestP3FormatLaysAnEmptyJournalThatIsSure(t *testing.T) {
 	for _, n := range []int{8, 20, 400} {
 		bare := formatted(t, n)
-		for name, d := range map[string]*api.Disk{"noughts": api.NewDisk(n), "a scrawl": scrawl(t, n), "an empty journal": formatted(t, n), "a used journal": used(t, n)} {
+		for name, d := range map[string]*api.Disk{"noughts": api.NewDisk(n), "a scrawl": scrawl(t, n), "an empty journal": formatted(t, n), "a full journal": filled(t, n), "a spoilt journal": spoilt(t, n)} {
 			format(t, d)
 			if d.Pending() != 0 {
 				t.Errorf("P3: Format over %s of %d blocks: %d writes are not sure", name, n, d.Pending())
@@ -38,8 +38,8 @@ func TestP3FormatLaysAnEmptyJournalThatIsSure(t *testing.T) {
 			if d.Bytes() != bare.Bytes() {
 				t.Errorf("P3: Format over %s of %d blocks leaves something of it", name, n)
 			}
-			found(t, "P3: Open behind Format over "+name, d, api.OK)
-			found(t, "P3: Open behind a failure of power behind Format over "+name, d.After(nil), api.OK)
+			tells(t, "P3: behind Format over "+name, opened(t, d))
+			tells(t, "P3: behind a failure of power behind Format over "+name, opened(t, d.After(nil)))
 		}
 	}
 }
@@ -50,7 +50,8 @@ func oldDisks(t *testing.T, n int) map[string]func() *api.Disk {
 		"noughts":          func() *api.Disk { return api.NewDisk(n) },
 		"a scrawl":         func() *api.Disk { return scrawl(t, n) },
 		"an empty journal": func() *api.Disk { return formatted(t, n) },
-		"a used journal":   func() *api.Disk { return used(t, n) },
+		"a full journal":   func() *api.Disk { return filled(t, n) },
+		"a spoilt journal": func() *api.Disk { return spoilt(t, n) },
 	}
 }
 
@@ -63,11 +64,11 @@ func whole(t *testing.T, what string, old, now *api.Disk) {
 	}
 	behind := now.Bytes()[api.Block:]
 	empty := strings.Count(behind, "\x00") == len(behind)
-	if !empty && (!hasHead(old) || behind != old.Bytes()[api.Block:]) {
+	switch {
+	case empty:
+		tells(t, what, opened(t, now))
+	case !hasHead(old) || behind != old.Bytes()[api.Block:]:
 		t.Errorf("%s: a journal of which a part is gone", what)
-	}
-	if empty {
-		found(t, what, now, api.OK)
 	}
 }
 
@@ -165,19 +166,9 @@ func TestP3ErrorsOfWhatIsDone(t *testing.T) {
 	for name, old := range oldDisks(t, 8) {
 		was := old()
 		for at := range 14 {
-			d := &odd{Disk: old()}
-			calls := 0
-			tell := func(err error) error {
-				calls++
-				if calls == at+1 {
-					return api.ErrIO
-				}
-				return err
-			}
-			d.write = func(i int, b []byte) error { return tell(d.Disk.Write(i, b)) }
-			d.flush = func() error { return tell(d.Disk.Flush()) }
+			d, lied := liar(old(), at)
 			err := sagas.Format(d)
-			if calls > at {
+			if lied() {
 				is(t, "P3: Format over "+name+" with an error of what is done", err, api.ErrIO)
 			} else {
 				is(t, "P3: Format over "+name, err, api.OK)

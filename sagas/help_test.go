@@ -2,6 +2,7 @@ package sagas_test
 
 import (
 	"errors"
+	"slices"
 	"testing"
 
 	"sagas/api"
@@ -47,6 +48,56 @@ func found(t *testing.T, what string, d api.Device, want api.Errno) {
 	}
 }
 
+// opened is an engine on a device with a journal.
+func opened(t *testing.T, d api.Device) *sagas.Engine {
+	t.Helper()
+	x, err := sagas.Open(d, 4, unasked(t))
+	if err != nil || x == nil {
+		t.Fatalf("P4: Open: %v", err)
+	}
+	return x
+}
+
+// submit submits a saga, and wants no error.
+func submit(t *testing.T, x *sagas.Engine, id int, l []api.Step) {
+	t.Helper()
+	is(t, "P5: Submit", x.Submit(id, l), api.OK)
+}
+
+// steps are n steps that have as much data as they may, the tag's in each of them, and differ from each other.
+func steps(n int, tag string) []api.Step {
+	l := make([]api.Step, n)
+	for i := range l {
+		l[i] = api.Step{Do: padded(tag, byte('1'+i)), Undo: padded(tag, byte('A'+i))}
+	}
+	return l
+}
+
+// padded makes a tag as long as data may be, with a byte at its end.
+func padded(tag string, last byte) string {
+	return (tag + "........")[:api.MaxData-1] + string(rune(last))
+}
+
+// begun is the status of a saga of n steps that was submitted, and no more.
+func begun(id, n int) api.Status {
+	return api.Status{Id: id, State: api.Running, Step: 1, Steps: n}
+}
+
+// tells holds all that an engine tells against what is wanted, by rising ids.
+func tells(t *testing.T, what string, x *sagas.Engine, want ...api.Status) {
+	t.Helper()
+	if got := plain.All(x, api.MaxId+1); !slices.Equal(got, want) {
+		t.Errorf("%s: All tells %v, want %v", what, got, want)
+	}
+	for _, w := range want {
+		got, err := x.Status(w.Id)
+		is(t, what+": Status", err, api.OK)
+		if got != w {
+			t.Errorf("%s: Status tells %v, want %v", what, got, w)
+		}
+	}
+}
+
 // unasked is a partner that nobody may ask.
 func unasked(t *testing.T) func(c api.Call) int {
 	return func(c api.Call) int {
@@ -63,11 +114,27 @@ func scrawl(t *testing.T, n int) *api.Disk {
 	return d
 }
 
-// used is a disk with a journal and, behind its head, bytes that a Format has to take away.
-func used(t *testing.T, n int) *api.Disk {
+// spoilt is a disk with the head of a journal and, behind it, bytes that are none.
+func spoilt(t *testing.T, n int) *api.Disk {
 	t.Helper()
 	d := formatted(t, n)
 	fill(t, d, 1)
+	return d
+}
+
+// filled is a disk with a journal in which no saga has room any more; their ids go down from 1,000.
+func filled(t *testing.T, n int) *api.Disk {
+	t.Helper()
+	d := formatted(t, n)
+	x := opened(t, d)
+	for id, size := api.MaxId, api.MaxSteps; size > 0; {
+		if err := x.Submit(id, steps(size, "full")); err == nil {
+			id--
+		} else {
+			is(t, "P5: Submit to a full device", err, api.ErrFull)
+			size--
+		}
+	}
 	return d
 }
 
@@ -176,4 +243,20 @@ func (o *odd) Flush() error {
 		return o.Disk.Flush()
 	}
 	return o.flush()
+}
+
+// liar is a device that does all that it is called for, but tells an error of it behind so many Writes and Flushes, once; did it?
+func liar(d *api.Disk, at int) (*odd, func() bool) {
+	o := &odd{Disk: d}
+	made := 0
+	tell := func(err error) error {
+		made++
+		if made == at+1 {
+			return api.ErrIO
+		}
+		return err
+	}
+	o.write = func(i int, b []byte) error { return tell(d.Write(i, b)) }
+	o.flush = func() error { return tell(d.Flush()) }
+	return o, func() bool { return made > at }
 }

@@ -108,3 +108,99 @@ func TestP4TheDeviceTellsErrors(t *testing.T) {
 		}
 	}
 }
+
+// All sagas that a device has room for are found, whatever their order was.
+func TestP4OpenFindsTheSagas(t *testing.T) {
+	for _, size := range []int{8, 20, 400} {
+		for n := 1; n <= api.MaxSteps; n++ {
+			d := formatted(t, size)
+			x := opened(t, d)
+			for i := 0; x.Submit(1+i*389%api.MaxId, steps(n, "many")) == nil; i++ {
+			}
+			want := plain.All(x, api.MaxId)
+			for range 2 {
+				y := opened(t, d)
+				tells(t, "P4: another engine", y, want...)
+				for _, s := range want {
+					if s != begun(s.Id, n) {
+						t.Errorf("P4: Open finds %v", s)
+					}
+					is(t, "P4: the same saga", y.Submit(s.Id, steps(n, "many")), api.OK)
+				}
+				d = d.After(nil)
+			}
+		}
+	}
+}
+
+// What waits to be flushed is found, and is gone behind a failure of power.
+func TestP4OpenFindsASagaThatWaits(t *testing.T) {
+	d := formatted(t, 20)
+	x := opened(t, d)
+	submit(t, x, 1, steps(1, "sure"))
+	d.Bad(1, 1)
+	is(t, "P5: Submit, its Flush fails", x.Submit(2, steps(2, "waits")), api.ErrIO)
+	if d.Pending() != 1 {
+		t.Fatalf("%d writes wait", d.Pending())
+	}
+	y := opened(t, d)
+	tells(t, "P4: a saga waits", y, begun(1, 1), begun(2, 2))
+	is(t, "P5: the saga that waits", y.Submit(2, steps(2, "waits")), api.OK)
+	tells(t, "P4: behind a failure of power", opened(t, d.After(nil)), begun(1, 1))
+	submit(t, y, 3, steps(1, "next"))
+	tells(t, "P5: behind the next one", opened(t, d.After(nil)), begun(1, 1), begun(2, 2), begun(3, 1))
+}
+
+func TestP4OpenOfSagasWritesNothing(t *testing.T) {
+	d := filled(t, 20)
+	was, writes := d.Bytes(), d.Writes()
+	for range 3 {
+		opened(t, d)
+	}
+	torn := formatted(t, 20)
+	x := opened(t, torn)
+	torn.Off(3)
+	is(t, "P8: cut off", x.Submit(1, steps(6, "torn")), api.ErrIO)
+	torn = torn.After([]int{7})
+	half := torn.Bytes()
+	opened(t, torn)
+	if d.Bytes() != was || d.Writes() != writes || torn.Bytes() != half || torn.Writes() != 0 {
+		t.Error("P4: Open writes")
+	}
+}
+
+// What stands on a device may be anything: Open finds sagas that may be, or no journal.
+func TestP1OpenOfAnything(t *testing.T) {
+	next := pattern(1)
+	for range 3000 {
+		d := formatted(t, 8)
+		for at := range next(8) {
+			b := make([]byte, api.Block)
+			if next(3) > 0 {
+				if saga, err := record.NewSaga(1+next(4), steps(1+next(3), "x")); err == nil {
+					laid := saga.Block()
+					copy(b, laid[:])
+				}
+			}
+			for range next(3) {
+				b[next(api.Block)] = byte(next(256))
+			}
+			_ = d.Write(1+at, b)
+		}
+		x, err := sagas.Open(d, 1, unasked(t))
+		if err != nil {
+			is(t, "P4: Open of anything", err, api.ErrCorrupt)
+			continue
+		}
+		last := 0
+		for s := range x.All() {
+			if s != begun(s.Id, s.Steps) || s.Id <= last || s.Id > api.MaxId || s.Steps < 1 || s.Steps > api.MaxSteps {
+				t.Fatalf("P4: Open of anything finds %v", s)
+			}
+			last = s.Id
+		}
+		for id := range 10 {
+			_ = x.Submit(id, steps(1, "y"))
+		}
+	}
+}

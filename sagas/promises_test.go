@@ -2,7 +2,10 @@ package sagas_test
 
 import (
 	"bytes"
+	"errors"
+	"slices"
 	"testing"
+	"unsafe"
 
 	"sagas/api"
 	"sagas/plain"
@@ -24,12 +27,34 @@ func TestP1TheErrorNamedFirst(t *testing.T) {
 	is(t, "P1: Format: errors of the device", sagas.Format(dead(8)), api.ErrIO)
 }
 
+// An error says in which call something was wrong.
+func TestP1ErrorsWrapWhatIsWrong(t *testing.T) {
+	x := opened(t, formatted(t, 8))
+	_, none := x.Status(1)
+	_, config := sagas.Open(formatted(t, 8), 0, nil)
+	_, size := sagas.Open(api.NewDisk(7), 1, nil)
+	for op, l := range map[string][]error{
+		"Format": {sagas.Format(api.NewDisk(7))},
+		"Open":   {config, size},
+		"Submit": {x.Submit(0, nil), x.Submit(1, steps(6, ""))},
+		"Status": {none},
+	} {
+		for _, err := range l {
+			var f *api.Fault
+			if !errors.As(err, &f) || f.Op != op {
+				t.Errorf("an error of %s: %v", op, err)
+			}
+		}
+	}
+}
+
 // What a device tells may be any error: of that the answer has nothing.
 func TestP1AnyErrorOfTheDeviceIsErrIO(t *testing.T) {
 	var none *api.Fault
 	for _, told := range []error{api.OK, api.ErrSize, api.ErrNone, api.Errno(77), &api.Fault{Op: "x", E: api.OK}, none, loop{}} {
-		for at := range 3 {
+		for at := range 5 {
 			d := &odd{Disk: formatted(t, 8)}
+			x := opened(t, d)
 			switch at {
 			case 0:
 				d.read = func(i int) ([]byte, error) { return nil, told }
@@ -40,6 +65,12 @@ func TestP1AnyErrorOfTheDeviceIsErrIO(t *testing.T) {
 			case 2:
 				d.flush = func() error { return told }
 				is(t, "P1: Format", sagas.Format(d), api.ErrIO)
+			case 3:
+				d.write = func(i int, b []byte) error { return told }
+				is(t, "P1: Submit", x.Submit(1, steps(1, "a")), api.ErrIO)
+			case 4:
+				d.flush = func() error { return told }
+				is(t, "P1: Submit", x.Submit(1, steps(1, "a")), api.ErrIO)
 			}
 		}
 	}
@@ -65,7 +96,13 @@ func TestP1OddAnswersOfDevices(t *testing.T) {
 		"bytes behind a one": {append(full[:api.Block:api.Block], 1, 2, 3), api.OK},
 	}
 	for name, c := range reads {
-		d := &odd{Disk: formatted(t, 8), read: func(i int) ([]byte, error) { return c.b, nil }}
+		d := &odd{Disk: formatted(t, 8)}
+		d.read = func(i int) ([]byte, error) {
+			if i == 0 {
+				return c.b, nil
+			}
+			return d.Disk.Read(i)
+		}
 		found(t, "P1: Open, a Read gives "+name, d, c.want)
 	}
 }
@@ -81,8 +118,12 @@ func TestP1NoBlockThatIsNotThere(t *testing.T) {
 		d.read = func(i int) ([]byte, error) { there(i); return d.Disk.Read(i) }
 		d.write = func(i int, b []byte) error { there(i); return d.Disk.Write(i, b) }
 		_, _ = sagas.Open(d, 1, unasked(t))
-		_ = sagas.Format(d)
-		_, _ = sagas.Open(d, 1, unasked(t))
+		if sagas.Format(d) != nil {
+			continue
+		}
+		for id := 1; id <= n; id++ {
+			_ = opened(t, d).Submit(id, steps(1, "fill"))
+		}
 	}
 }
 
@@ -110,6 +151,10 @@ func TestP1NothingIsThrown(t *testing.T) {
 	d.write = func(i int, b []byte) error { panic(api.ErrSize) }
 	is(t, "P1: Format of a device that panics", sagas.Format(d), api.ErrIO)
 	found(t, "P1: Open of a device that panics", d, api.ErrIO)
+	d.read = nil
+	x := opened(t, d)
+	is(t, "P1: Submit to a device that panics", x.Submit(1, steps(1, "a")), api.ErrIO)
+	is(t, "P8: behind it", x.Submit(1, steps(1, "a")), api.ErrFailed)
 }
 
 func TestP1AnyPartnerWillDo(t *testing.T) {
@@ -124,13 +169,19 @@ func TestP1AnyPartnerWillDo(t *testing.T) {
 
 // A device may hand out its own memory.
 func TestP2WhatIsReadIsNotWrittenInto(t *testing.T) {
-	own, _ := formatted(t, 8).Read(0)
-	was := bytes.Clone(own)
-	d := &odd{Disk: formatted(t, 8), read: func(i int) ([]byte, error) { return own, nil }}
-	found(t, "P2: Open", d, api.OK)
+	var own, was [][]byte
+	full := filled(t, 20)
+	for i := range 20 {
+		b, _ := full.Read(i)
+		own, was = append(own, b), append(was, bytes.Clone(b))
+	}
+	d := &odd{Disk: full, read: func(i int) ([]byte, error) { return own[i], nil }}
+	_ = opened(t, d).Submit(7, steps(1, "new"))
 	format(t, d)
-	if !bytes.Equal(own, was) {
-		t.Error("P2: what a device handed out is written into")
+	for i := range own {
+		if !bytes.Equal(own[i], was[i]) {
+			t.Errorf("P2: what a device handed out of block %d is written into", i)
+		}
 	}
 }
 
@@ -143,6 +194,7 @@ func TestP2WhatIsWrittenIsTheDevicesOwn(t *testing.T) {
 		return d.Disk.Write(i, b)
 	}
 	format(t, d)
+	submit(t, opened(t, d), 1, steps(6, "kept"))
 	for i := range kept {
 		if !bytes.Equal(kept[i], was[i]) {
 			t.Errorf("P2: what was handed to write %d is written into later", i)
@@ -160,18 +212,53 @@ func TestP2WhatIsWrittenIsTheDevicesOwn(t *testing.T) {
 	if d.Bytes() != formatted(t, 20).Bytes() {
 		t.Error("P2: what a device writes into what it was handed is laid down")
 	}
+	x := opened(t, d)
+	submit(t, x, 1, steps(6, "kept"))
+	holds(t, "P2: behind a device that writes into what it is handed", x, 1, steps(6, "kept"))
+	holds(t, "P2: another engine", opened(t, d), 1, steps(6, "kept"))
+}
+
+func TestP2StepsAreNotWrittenIntoOrKept(t *testing.T) {
+	x := opened(t, formatted(t, 60))
+	for n := 1; n <= api.MaxSteps; n++ {
+		l := steps(api.MaxSteps+1, "own")
+		submit(t, x, n, l[:n])
+		if !slices.Equal(l, steps(api.MaxSteps+1, "own")) {
+			t.Errorf("P2: the list that was handed in reads %v", l)
+		}
+		clear(l)
+		holds(t, "P2: the list is changed behind Submit", x, n, steps(n, "own"))
+		is(t, "P5: the list as it is now", x.Submit(n, l[:n]), api.ErrUsed)
+	}
+}
+
+// Nor is what stands behind a text: it may be a piece of a greater one.
+func TestP2TextsAreNotKept(t *testing.T) {
+	x := opened(t, formatted(t, 40))
+	text := []byte("12345678abcdefgh")
+	do, undo := unsafe.String(&text[0], 8), unsafe.String(&text[8], 8)
+	submit(t, x, 1, []api.Step{{Do: do, Undo: undo}})
+	clear(text)
+	holds(t, "P2: the texts are changed behind Submit", x, 1, []api.Step{{Do: "12345678", Undo: "abcdefgh"}})
 }
 
 func TestP2ThePartnerIsNotAsked(t *testing.T) {
 	d := formatted(t, 20)
 	p := plain.NewPartner([]int{0, 3, 5})
-	for range 3 {
-		if _, err := plain.Open(d, 4, p); err != nil {
-			t.Errorf("P4: Open: %v", err)
+	for id := 1; id < 4; id++ {
+		x, err := plain.Open(d, 4, p)
+		if err != nil {
+			t.Fatalf("P4: Open: %v", err)
+		}
+		submit(t, x, id, steps(2, "a"))
+		submit(t, x, id, steps(2, "a"))
+		plain.All(x, 10)
+		if _, err := x.Status(id); err != nil {
+			t.Errorf("P7: Status: %v", err)
 		}
 	}
 	if len(p.Log) != 0 {
-		t.Errorf("P2: the partner is asked by Open: %v", p.Log)
+		t.Errorf("P2: the partner is asked: %v", p.Log)
 	}
 }
 
@@ -184,4 +271,9 @@ func TestP2DevicesDoNotKnowEachOther(t *testing.T) {
 	if one.Bytes() != formatted(t, 20).Bytes() {
 		t.Error("P2: two Formats lay down two things")
 	}
+	x, y := opened(t, one), opened(t, formatted(t, 20))
+	submit(t, x, 1, steps(1, "x"))
+	submit(t, y, 1, steps(2, "y"))
+	tells(t, "P2: one of two engines", x, begun(1, 1))
+	tells(t, "P2: the other of two engines", y, begun(1, 2))
 }

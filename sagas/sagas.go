@@ -4,6 +4,8 @@ package sagas
 import (
 	"sagas/api"
 	"sagas/journal"
+	"sagas/record"
+	"sagas/roll"
 	"sagas/volume"
 )
 
@@ -18,9 +20,11 @@ func Format(d api.Device) error {
 
 // Engine runs sagas by a journal.
 type Engine struct {
-	volume *volume.Volume
-	pause  int
-	call   func(c api.Call) int
+	journal *journal.Journal
+	roll    *roll.Roll
+	failed  bool // the device told an error: what it holds is not known any more
+	pause   int
+	call    func(c api.Call) int
 }
 
 // Open reads the journal that is on a device (P4); call asks a partner.
@@ -29,27 +33,68 @@ func Open(d api.Device, pause int, call func(c api.Call) int) (*Engine, error) {
 		return nil, wrapped("Open", api.ErrConfig)
 	}
 	v, err := volume.New(d)
-	if err == nil {
-		err = journal.Find(v)
-	}
 	if err != nil {
 		return nil, wrapped("Open", err)
 	}
-	return &Engine{v, pause, call}, nil
+	r := roll.New(journal.Room(v))
+	j, err := journal.Find(v, r.Take)
+	if err != nil {
+		return nil, wrapped("Open", err)
+	}
+	return &Engine{journal: j, roll: r, pause: pause, call: call}, nil
 }
 
 // Submit takes a saga (P5).
-func (x *Engine) Submit(id int, steps []api.Step) error { return nil }
+func (x *Engine) Submit(id int, steps []api.Step) error {
+	return wrapped("Submit", x.submit(id, steps))
+}
+
+func (x *Engine) submit(id int, steps []api.Step) error {
+	if x.failed {
+		return api.ErrFailed
+	}
+	s, err := record.NewSaga(id, steps)
+	if err != nil {
+		return err
+	}
+	if old, there := x.roll.Saga(id); there {
+		if old != s {
+			return api.ErrUsed
+		}
+		return nil
+	}
+	if !x.roll.Fits(s) {
+		return api.ErrFull
+	}
+	if err := x.journal.Add(s.Block()); err != nil {
+		x.failed = true
+		return err
+	}
+	x.roll.Take(s)
+	return nil
+}
 
 // Tick is one tick of the clock (P6).
 func (x *Engine) Tick() error { return nil }
 
 // Status tells of a saga (P7).
-func (x *Engine) Status(id int) (api.Status, error) { return api.Status{}, nil }
+func (x *Engine) Status(id int) (api.Status, error) {
+	s, there := x.roll.Status(id)
+	if !there {
+		return api.Status{}, wrapped("Status", api.ErrNone)
+	}
+	return s, nil
+}
 
-// All goes through the sagas (P7).
+// All goes through the sagas (P7). Each time that it is gone through it tells how they stood at the beginning, whatever is called on the way.
 func (x *Engine) All() func(yield func(s api.Status) bool) {
-	return func(yield func(s api.Status) bool) {}
+	return func(yield func(s api.Status) bool) {
+		for _, s := range x.roll.Statuses() {
+			if !yield(s) {
+				return
+			}
+		}
+	}
 }
 
 // wrapped says in which call something was wrong.
