@@ -34,14 +34,14 @@ type Journal struct {
 	settled bool // all records are sure, and noughts behind them
 }
 
-// Find reads the journal on a volume, and hands each saga to take, in the order in which they were added: ErrCorrupt, if there is none, or take says no. It changes nothing on the volume.
-func Find(v *volume.Volume, take func(s record.Saga) bool) (*Journal, error) {
+// Find reads the journal on a volume, and hands each saga to take, and each move to follow, in the order in which they were added: ErrCorrupt, if there is none, or one of the two says no. It changes nothing on the volume.
+func Find(v *volume.Volume, take func(s record.Saga) bool, follow func(m record.Move) bool) (*Journal, error) {
 	j := &Journal{volume: v, end: headAt + 1}
 	err := volume.Try(func() error {
 		if v.Load(headAt) != record.Head(v.Blocks()) {
 			return api.ErrCorrupt
 		}
-		return j.read(take)
+		return j.read(func(b record.Block) bool { return record.Read(b, take, follow) })
 	})
 	if err != nil {
 		return nil, err
@@ -50,14 +50,13 @@ func Find(v *volume.Volume, take func(s record.Saga) bool) (*Journal, error) {
 }
 
 // read goes on to the end of the records. That may be one that was cut off: then nothing was written behind it.
-func (j *Journal) read(take func(s record.Saga) bool) error {
+func (j *Journal) read(hand func(b record.Block) bool) error {
 records:
 	for ; j.end < j.volume.Blocks(); j.end++ {
-		b := j.volume.Load(j.end)
-		switch s, ok := record.ReadSaga(b); {
+		switch b := j.volume.Load(j.end); {
 		case !record.Whole(b):
 			break records
-		case !ok || !take(s):
+		case !hand(b):
 			return api.ErrCorrupt
 		}
 	}
@@ -71,8 +70,10 @@ records:
 
 // Add adds a record, and makes sure of it. Behind an error nothing more may be added: of two records that are not sure a failure of power might leave the second one alone, and another one in the first one's place would bring it to light.
 func (j *Journal) Add(b record.Block) error {
+	if err := j.Settle(); err != nil {
+		return err
+	}
 	return volume.Try(func() error {
-		j.settle()
 		j.volume.Store(j.end, b)
 		j.volume.Secure()
 		j.end++
@@ -80,12 +81,15 @@ func (j *Journal) Add(b record.Block) error {
 	})
 }
 
-// settle makes sure of what Find found, and wipes what was cut off behind it: sectors of that, and of a record in its place, could make up one that nobody added.
-func (j *Journal) settle() {
+// Settle makes sure of what Find found, and wipes what was cut off behind it: sectors of that, and of a record in its place, could make up one that nobody added. There must be room for a record.
+func (j *Journal) Settle() error {
 	if j.settled {
-		return
+		return nil
 	}
-	j.volume.Store(j.end, record.Block{})
-	j.volume.Secure()
-	j.settled = true
+	return volume.Try(func() error {
+		j.volume.Store(j.end, record.Block{})
+		j.volume.Secure()
+		j.settled = true
+		return nil
+	})
 }

@@ -38,7 +38,7 @@ func saga(t *testing.T, id int) record.Saga {
 	return s
 }
 
-// find finds a journal, and tells the ids in it.
+// find finds a journal, and tells the ids in it, those of moves below 0.
 func find(t *testing.T, d api.Device) (*Journal, []int, error) {
 	t.Helper()
 	var ids []int
@@ -47,6 +47,9 @@ func find(t *testing.T, d api.Device) (*Journal, []int, error) {
 			t.Errorf("a saga that nobody added: %v", s)
 		}
 		ids = append(ids, s.Id)
+		return true
+	}, func(m record.Move) bool {
+		ids = append(ids, -m.Id)
 		return true
 	})
 	if (j == nil) != (err != nil) {
@@ -135,6 +138,8 @@ func TestFindWithWrongRecords(t *testing.T) {
 	wrong[api.Block-1] = 1
 	half := good
 	half[api.Sector] = 0
+	nothing := record.Move{Id: 1}.Block()
+	nothing[api.Block-1] = 1
 	for name, l := range map[string][]record.Block{
 		"a whole one that says nothing":     {good, wrong},
 		"one behind a gap":                  {good, {}, good},
@@ -142,37 +147,69 @@ func TestFindWithWrongRecords(t *testing.T) {
 		"some bytes behind the end":         {good, {}, {}, {100: 1}},
 		"one in the last block":             {6: good},
 		"one that take does not want again": {good, good},
+		"a move that says nothing":          {good, nothing},
+		"a move that nobody wants":          {good, record.Move{Id: 1}.Block()},
 	} {
 		d := laid(t, 8)
 		for i, b := range l {
 			put(t, d, 1+i, b)
 		}
 		taken := 0
-		j, err := Find(on(t, d), func(s record.Saga) bool { taken++; return taken == 1 })
+		j, err := Find(on(t, d), func(s record.Saga) bool { taken++; return taken == 1 }, func(m record.Move) bool { return false })
 		if j != nil || err != api.ErrCorrupt {
 			t.Errorf("Find with %s: %v, %v", name, j, err)
 		}
 	}
 }
 
-// The first record that a journal adds waits until what was found is sure, and what was cut off is gone.
-func TestSettledAheadOfTheFirstRecord(t *testing.T) {
+// Sagas and moves come in the order in which they were added.
+func TestMovesAreFoundInOrder(t *testing.T) {
 	d := laid(t, 8)
-	first, last := saga(t, 1).Block(), saga(t, 2).Block()
-	last[api.Sector] = 0
-	if d.Write(1, first[:]) != nil || d.Write(2, last[:]) != nil {
-		t.Fatal("the disk told an error")
+	j, _, err := find(t, d)
+	if err != nil {
+		t.Fatal(err)
 	}
-	j, ids, err := find(t, d)
-	if err != nil || !slices.Equal(ids, []int{1}) || d.Pending() != 2 {
-		t.Fatalf("Find: %v, %v, %d writes wait", ids, err, d.Pending())
+	want := []int{1, -1, 2, -2, -1, 3}
+	for _, id := range want {
+		b := record.Move{Id: -id}.Block()
+		if id > 0 {
+			b = saga(t, id).Block()
+		}
+		if err := j.Add(b); err != nil || d.Pending() != 0 {
+			t.Fatalf("Add: %v, %d writes wait", err, d.Pending())
+		}
 	}
-	d.Off(2)
-	if err := j.Add(saga(t, 3).Block()); !errors.Is(err, api.ErrIO) {
-		t.Errorf("Add without power: %v", err)
+	if _, ids, err := find(t, d); err != nil || !slices.Equal(ids, want) {
+		t.Errorf("Find: %v, %v, want %v", ids, err, want)
 	}
-	if d.Pending() != 0 || d.Bytes()[api.Block:] != string(first[:])+string(make([]byte, 6*api.Block)) {
-		t.Error("what was found is not sure, or something stands behind it")
+}
+
+// Ahead of all else that a journal is used for, what was found is sure, and what was cut off is gone.
+func TestSettled(t *testing.T) {
+	for name, use := range map[string]func(j *Journal) error{
+		"Settle": func(j *Journal) error { return j.Settle() },
+		"Add":    func(j *Journal) error { return j.Add(saga(t, 3).Block()) },
+	} {
+		d := laid(t, 8)
+		first, last := saga(t, 1).Block(), saga(t, 2).Block()
+		last[api.Sector] = 0
+		if d.Write(1, first[:]) != nil || d.Write(2, last[:]) != nil {
+			t.Fatal("the disk told an error")
+		}
+		j, ids, err := find(t, d)
+		if err != nil || !slices.Equal(ids, []int{1}) || d.Pending() != 2 {
+			t.Fatalf("Find: %v, %v, %d writes wait", ids, err, d.Pending())
+		}
+		d.Off(2)
+		if err := use(j); (err == nil) != (name == "Settle") || err != nil && !errors.Is(err, api.ErrIO) {
+			t.Errorf("%s without power behind two calls: %v", name, err)
+		}
+		if d.Pending() != 0 || d.Bytes()[api.Block:] != string(first[:])+string(make([]byte, 6*api.Block)) {
+			t.Errorf("%s: what was found is not sure, or something stands behind it", name)
+		}
+		if name == "Settle" && (use(j) != nil || d.Told() != 0) {
+			t.Error("what is settled is settled again")
+		}
 	}
 }
 
@@ -198,6 +235,17 @@ func TestErrorsOfTheDevice(t *testing.T) {
 		d.Bad(at, 1)
 		if err := j.Add(saga(t, 1).Block()); !errors.Is(err, api.ErrIO) {
 			t.Errorf("Add, error at call %d: %v", at, err)
+		}
+	}
+	for at := range 2 {
+		d := laid(t, 20)
+		j, _, err := find(t, d)
+		if err != nil {
+			t.Fatal(err)
+		}
+		d.Bad(at, 1)
+		if err := j.Settle(); !errors.Is(err, api.ErrIO) {
+			t.Errorf("Settle, error at call %d: %v", at, err)
 		}
 	}
 }

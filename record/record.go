@@ -10,6 +10,7 @@ const (
 	_    kind = iota // a sector of noughts is of no record
 	head             // there is a journal
 	saga             // a saga was taken
+	move             // a saga moved
 )
 
 // mark is what no other device has by chance where a journal has its head.
@@ -71,12 +72,30 @@ func read(b Block) body {
 	return said
 }
 
+// idAt is where the id of the saga of which a record speaks stands in its body: in two bytes.
+const idAt = 0
+
+func putId(said *body, id int) { said[idAt], said[idAt+1] = byte(id>>8), byte(id) }
+
+func getId(said body) int { return int(said[idAt])<<8 | int(said[idAt+1]) }
+
 // Whole: are all sectors of a record there? One that is not whole is none.
 func Whole(b Block) bool {
+	first := kind(b[kindAt])
 	for i := range sectors {
-		if b[i*api.Sector] != byte(saga) {
+		if kind(b[i*api.Sector]) != first {
 			return false
 		}
 	}
-	return true
+	return first == saga || first == move
+}
+
+// Read hands what a whole record says to the function that takes what is of its kind; false, if it says nothing, or the function says no.
+func Read(b Block, take func(s Saga) bool, follow func(m Move) bool) bool {
+	if kind(b[kindAt]) == move {
+		m, ok := readMove(b)
+		return ok && follow(m)
+	}
+	s, ok := readSaga(b)
+	return ok && take(s)
 }

@@ -12,9 +12,8 @@ type Saga struct {
 	Steps     [api.MaxSteps]api.Step // noughts behind the first Count of them
 }
 
-// What stands where in a saga's body.
+// What stands where in a saga's body, behind its id.
 const (
-	idAt     = 0
 	stepsAt  = 2 // how many there are
 	firstAt  = 3 // the first of them
 	dataAt   = 1 // in a step, behind the lengths of its Do and its Undo
@@ -39,7 +38,8 @@ func NewSaga(id int, steps []api.Step) (Saga, error) {
 // Block is the record of a saga.
 func (s Saga) Block() Block {
 	var said body
-	copy(said.part(idAt, firstAt-idAt), []byte{byte(s.Id >> 8), byte(s.Id), byte(s.Count)})
+	putId(&said, s.Id)
+	said[stepsAt] = byte(s.Count)
 	for i, step := range s.Steps {
 		at := firstAt + i*stepSize
 		said[at] = byte(len(step.Do)<<4 | len(step.Undo))
@@ -49,8 +49,8 @@ func (s Saga) Block() Block {
 	return laid(saga, said)
 }
 
-// ReadSaga reads a saga's record; false, if the block is not what Block would make of any saga.
-func ReadSaga(b Block) (Saga, bool) {
+// readSaga reads a saga's record; false, if the block is not what Block would make of any saga.
+func readSaga(b Block) (Saga, bool) {
 	said := read(b)
 	steps := make([]api.Step, min(int(said[stepsAt]), api.MaxSteps))
 	for i := range steps {
@@ -58,7 +58,7 @@ func ReadSaga(b Block) (Saga, bool) {
 		steps[i].Do = text(said.part(at+dataAt, api.MaxData), said[at]>>4)
 		steps[i].Undo = text(said.part(at+dataAt+api.MaxData, api.MaxData), said[at]&15)
 	}
-	s, err := NewSaga(int(said[idAt])<<8|int(said[idAt+1]), steps)
+	s, err := NewSaga(getId(said), steps)
 	if err != nil || s.Block() != b {
 		return Saga{}, false
 	}

@@ -53,7 +53,7 @@ func TestSagasAreReadAsTheyWereLaid(t *testing.T) {
 		if !Whole(b) {
 			t.Errorf("the record of %v is not whole", s)
 		}
-		if got, ok := ReadSaga(b); !ok || got != s {
+		if got, ok := readSaga(b); !ok || got != s {
 			t.Errorf("%v is read as %v, %v", s, got, ok)
 		}
 		if other, ok := seen[b]; ok {
@@ -66,16 +66,9 @@ func TestSagasAreReadAsTheyWereLaid(t *testing.T) {
 // P8: of a record of which a sector is missing nothing is left.
 func TestARecordWithoutASectorIsNotWhole(t *testing.T) {
 	for _, s := range sagas(t) {
-		for keep := range 15 {
-			whole := s.Block()
-			var b Block
-			for i := range sectors {
-				if keep>>i&1 == 1 {
-					copy(b.Part(i*api.Sector, api.Sector), whole.Part(i*api.Sector, api.Sector))
-				}
-			}
+		for _, b := range cuts(s.Block()) {
 			if Whole(b) {
-				t.Errorf("of the record of %v the sectors %b are whole", s, keep)
+				t.Errorf("what is left of the record of %v is whole: %v", s, b)
 			}
 		}
 	}
@@ -110,7 +103,7 @@ func TestBlocksThatAreNoRecord(t *testing.T) {
 			for _, value := range []byte{0, 1, 2, 3, 0x0f, 0x80, 0x88, 0x90, 0xff} {
 				b := s.Block()
 				b[at] = value
-				if got, ok := ReadSaga(b); ok && got.Block() != b {
+				if got, ok := readSaga(b); ok && got.Block() != b {
 					t.Errorf("byte %d of %v: %v, of another record", at, s, got)
 				}
 			}
@@ -120,11 +113,11 @@ func TestBlocksThatAreNoRecord(t *testing.T) {
 	for _, at := range []int{api.Block - 1, 1, 3} { // noughts behind the steps; a great id; too many steps
 		wrong := b
 		wrong[at] = 77
-		if s, ok := ReadSaga(wrong); ok {
+		if s, ok := readSaga(wrong); ok {
 			t.Errorf("byte %d is wrong: %v", at, s)
 		}
 	}
-	if s, ok := ReadSaga(Block{}); ok || s != (Saga{}) {
+	if s, ok := readSaga(Block{}); ok || s != (Saga{}) {
 		t.Errorf("noughts are read as %v", s)
 	}
 }

@@ -11,8 +11,8 @@ import (
 
 // entry is a saga and how it stands.
 type entry struct {
-	saga   record.Saga
-	status api.Status
+	saga  record.Saga
+	stand stand
 }
 
 // Roll holds sagas by rising ids.
@@ -36,8 +36,7 @@ func (r *Roll) Take(s record.Saga) bool {
 	if used || !r.Fits(s) {
 		return false
 	}
-	begun := api.Status{Id: s.Id, State: api.Running, Step: 1, Steps: s.Count}
-	r.entries = slices.Insert(r.entries, at, &entry{s, begun})
+	r.entries = slices.Insert(r.entries, at, &entry{s, begun(s)})
 	r.room -= need(s)
 	return true
 }
@@ -49,29 +48,84 @@ func (r *Roll) place(id int) (int, bool) {
 	})
 }
 
-// Saga is the saga of an id; false, if there is none.
-func (r *Roll) Saga(id int) (record.Saga, bool) {
+// find is the entry of an id; nil, if there is none.
+func (r *Roll) find(id int) *entry {
 	at, there := r.place(id)
 	if !there {
+		return nil
+	}
+	return r.entries[at]
+}
+
+// Saga is the saga of an id; false, if there is none.
+func (r *Roll) Saga(id int) (record.Saga, bool) {
+	e := r.find(id)
+	if e == nil {
 		return record.Saga{}, false
 	}
-	return r.entries[at].saga, true
+	return e.saga, true
 }
 
 // Status is how the saga of an id stands; false, if there is none.
 func (r *Roll) Status(id int) (api.Status, bool) {
-	at, there := r.place(id)
-	if !there {
+	e := r.find(id)
+	if e == nil {
 		return api.Status{}, false
 	}
-	return r.entries[at].status, true
+	return api.Status(e.stand), true
 }
 
 // Statuses is how all sagas stand now, by rising ids.
 func (r *Roll) Statuses() []api.Status {
 	out := make([]api.Status, len(r.entries))
 	for i, e := range r.entries {
-		out[i] = e.status
+		out[i] = api.Status(e.stand)
 	}
 	return out
+}
+
+// Next is what is to be asked for next of a saga, and whether that is due at a tick; of one that is over, or is not there, nothing is.
+func (r *Roll) Next(id, clock int) (c api.Call, due bool) {
+	e := r.find(id)
+	if e == nil || !e.stand.open() {
+		return api.Call{}, false
+	}
+	return e.call(), e.stand.Due <= clock
+}
+
+// call is what is to be asked for of a saga that is open.
+func (e *entry) call() api.Call {
+	step := e.saga.Steps[e.stand.Step-1]
+	c := api.Call{Saga: e.saga.Id, Step: e.stand.Step, Data: step.Do}
+	if e.stand.State == api.Undoing {
+		c.Back, c.Data = true, step.Undo
+	}
+	return c
+}
+
+// Moves: would Move move a saga?
+func (r *Roll) Moves(m record.Move) bool {
+	e := r.find(m.Id)
+	if e == nil {
+		return false
+	}
+	_, moves := e.stand.moved(m.Reply)
+	return moves
+}
+
+// Move moves a saga; false, if there is none of its id, or it is not moved by that reply.
+func (r *Roll) Move(m record.Move) bool {
+	if !r.Moves(m) {
+		return false
+	}
+	e := r.find(m.Id)
+	e.stand, _ = e.stand.moved(m.Reply)
+	return true
+}
+
+// PutOff notes that a saga was asked for in vain at a tick.
+func (r *Roll) PutOff(id, clock, pause int) {
+	if e := r.find(id); e != nil {
+		e.stand = e.stand.putOff(clock, pause)
+	}
 }

@@ -1,101 +1,12 @@
 package sagas_test
 
 import (
-	"slices"
 	"testing"
 
 	"sagas/api"
 	"sagas/plain"
 	"sagas/sagas"
 )
-
-// maybe is what may be there: of each id the sagas, and whether it may be none of them.
-type maybe map[int]struct {
-	none  bool
-	sagas [][]api.Step
-}
-
-// sure: that saga, and nothing else.
-func (m maybe) sure(id int, l []api.Step) {
-	e := m[id]
-	e.none, e.sagas = false, [][]api.Step{l}
-	m[id] = e
-}
-
-// unsure: that saga, or what may be there already.
-func (m maybe) unsure(id int, l []api.Step) {
-	e, known := m[id]
-	e.none = e.none || !known
-	e.sagas = append(slices.Clone(e.sagas), l)
-	m[id] = e
-}
-
-// copied is the same, for another way to go on.
-func (m maybe) copied() maybe {
-	out := maybe{}
-	for id, e := range m {
-		out[id] = e
-	}
-	return out
-}
-
-// checked opens a device and holds what is found against what may be there. Where nothing waits to be flushed, it is what is there from then on.
-func (m maybe) checked(t *testing.T, what string, d *api.Disk) *sagas.Engine {
-	t.Helper()
-	x := opened(t, d)
-	writes := d.Writes()
-	for _, s := range plain.All(x, api.MaxId) {
-		at := slices.IndexFunc(m[s.Id].sagas, func(l []api.Step) bool { return x.Submit(s.Id, l) == nil })
-		if at < 0 || s != begun(s.Id, len(m[s.Id].sagas[at])) {
-			t.Fatalf("%s: %v may not be there", what, s)
-		}
-		if d.Pending() == 0 {
-			m.sure(s.Id, m[s.Id].sagas[at])
-		}
-	}
-	if d.Writes() != writes {
-		t.Fatalf("P5: %s: a saga that is there is written", what)
-	}
-	for id, e := range m {
-		_, err := x.Status(id)
-		if err != nil && !e.none {
-			t.Fatalf("%s: saga %d is lost", what, id)
-		}
-		if err != nil && d.Pending() == 0 {
-			delete(m, id)
-		}
-	}
-	return x
-}
-
-// submitted submits a saga that is not there, while the device may tell errors.
-func (m maybe) submitted(t *testing.T, x *sagas.Engine, d *api.Disk, id int, l []api.Step) {
-	t.Helper()
-	told := d.Told()
-	err := x.Submit(id, l)
-	if d.Told() == told {
-		is(t, "P5: Submit", err, api.OK)
-		m.sure(id, l)
-		return
-	}
-	is(t, "P1: Submit with errors of the device", err, api.ErrIO)
-	m.unsure(id, l)
-	is(t, "P8: behind it", x.Submit(id, l), api.ErrFailed)
-}
-
-// afters are the disks that a failure of power may leave: each one once.
-func afters(d *api.Disk) []*api.Disk {
-	seen := map[string]bool{}
-	var out []*api.Disk
-	for _, keep := range choices(d.Pending()) {
-		e := d.After(keep)
-		if !seen[e.Bytes()] {
-			seen[e.Bytes()] = true
-			out = append(out, e)
-		}
-	}
-	return out
-}
 
 // goesOn lets the power fail, and wants that another Submit is then taken, and nothing else comes or goes by it.
 func (m maybe) goesOn(t *testing.T, what string, d *api.Disk) {
@@ -104,7 +15,7 @@ func (m maybe) goesOn(t *testing.T, what string, d *api.Disk) {
 		m := m.copied()
 		x := m.checked(t, what, last)
 		submit(t, x, 6, steps(6, "last"))
-		m.sure(6, steps(6, "last"))
+		m.sure(6, start(steps(6, "last")))
 		m.checked(t, what+", and another Submit", last)
 	}
 }
@@ -117,7 +28,7 @@ func base(t *testing.T) (*api.Disk, maybe) {
 	t.Helper()
 	d := formatted(t, least+4*named(6))
 	m := maybe{}
-	m.sure(5, steps(6, "base"))
+	m.sure(5, start(steps(6, "base")))
 	submit(t, opened(t, d), 5, steps(6, "base"))
 	return d, m
 }
@@ -180,10 +91,10 @@ func TestP8ErrorsOfWhatIsDone(t *testing.T) {
 		err := x.Submit(3, steps(6, "one"))
 		if !lied() {
 			is(t, "P5: Submit", err, api.OK)
-			m.sure(3, steps(6, "one"))
+			m.sure(3, start(steps(6, "one")))
 		} else {
 			is(t, "P1: Submit with an error of what is done", err, api.ErrIO)
-			m.unsure(3, steps(6, "one"))
+			m.unsure(3, start(steps(6, "one")))
 		}
 		m.copied().checked(t, "P8: behind an error of what is done", disk)
 		for _, last := range afters(disk) {
@@ -245,13 +156,13 @@ func tried(t *testing.T, m maybe, x *sagas.Engine, d *api.Disk, id int, l []api.
 	err := x.Submit(id, l)
 	switch e := plain.Told(err); {
 	case e == api.ErrIO && d.Told() > told && none != nil:
-		m.unsure(id, l)
+		m.unsure(id, start(l))
 	case e == api.ErrUsed && none == nil, e == api.ErrFull && none != nil, e == api.OK && none == nil:
 		if d.Writes() != writes {
 			t.Errorf("P5: Submit, answered with %v, writes", err)
 		}
 	case e == api.OK && d.Told() == told:
-		m.sure(id, l)
+		m.sure(id, start(l))
 	default:
 		t.Errorf("P5: Submit: %v, the device told %d errors, Status %v", err, d.Told()-told, none)
 	}

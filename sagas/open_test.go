@@ -169,38 +169,106 @@ func TestP4OpenOfSagasWritesNothing(t *testing.T) {
 	}
 }
 
-// What stands on a device may be anything: Open finds sagas that may be, or no journal.
+// anything is a device with a journal's head, and behind it records of all kinds, whole or not.
+func anything(t *testing.T, next func(below int) int) *api.Disk {
+	t.Helper()
+	d := formatted(t, 12)
+	for at := range next(8) {
+		var b record.Block
+		switch kind := next(6); {
+		case kind > 2 && at > 0:
+			b = record.Move{Id: 1 + next(2), Reply: next(3)}.Block()
+		case kind > 0:
+			saga, err := record.NewSaga(1+next(2), steps(1+next(3), "x"))
+			is(t, "a saga", err, api.OK)
+			b = saga.Block()
+		}
+		if next(8) == 0 {
+			b[next(api.Block)] = byte(next(256))
+		}
+		_ = d.Write(1+at, b[:])
+	}
+	return d
+}
+
+// stands: is that how a saga may stand that was just opened?
+func stands(s api.Status) bool {
+	if s.Tries != 0 || s.Due != 0 || s.Id < 1 || s.Id > api.MaxId || s.Steps < 1 || s.Steps > api.MaxSteps {
+		return false
+	}
+	switch s.State {
+	case api.Running:
+		return s.Step >= 1 && s.Step <= s.Steps
+	case api.Undoing:
+		return s.Step >= 1 && s.Step < s.Steps
+	case api.Committed, api.Aborted:
+		return s.Step == 0
+	}
+	return false
+}
+
+// What stands on a device may be anything: Open finds sagas that may be, or no journal; and those come to their ends.
 func TestP1OpenOfAnything(t *testing.T) {
 	next := pattern(1)
-	for range 3000 {
-		d := formatted(t, 8)
-		for at := range next(8) {
-			b := make([]byte, api.Block)
-			if next(3) > 0 {
-				if saga, err := record.NewSaga(1+next(4), steps(1+next(3), "x")); err == nil {
-					laid := saga.Block()
-					copy(b, laid[:])
-				}
-			}
-			for range next(3) {
-				b[next(api.Block)] = byte(next(256))
-			}
-			_ = d.Write(1+at, b)
-		}
-		x, err := sagas.Open(d, 1, unasked(t))
+	moved := 0
+	for range 6000 {
+		d := anything(t, next)
+		x, err := sagas.Open(d, 1, refuses(2).ask)
 		if err != nil {
 			is(t, "P4: Open of anything", err, api.ErrCorrupt)
 			continue
 		}
 		last := 0
 		for s := range x.All() {
-			if s != begun(s.Id, s.Steps) || s.Id <= last || s.Id > api.MaxId || s.Steps < 1 || s.Steps > api.MaxSteps {
+			if !stands(s) || s.Id <= last {
 				t.Fatalf("P4: Open of anything finds %v", s)
+			}
+			if s != begun(s.Id, s.Steps) {
+				moved++
 			}
 			last = s.Id
 		}
 		for id := range 10 {
 			_ = x.Submit(id, steps(1, "y"))
+			is(t, "P6: Tick on anything", x.Tick(), api.OK)
 		}
+		for s := range x.All() {
+			if s.State < api.Committed {
+				t.Errorf("P9: on anything %v does not come to its end", s)
+			}
+		}
+	}
+	if moved < 100 {
+		t.Errorf("only %d sagas that have moved", moved)
+	}
+}
+
+// A move that cannot be is no journal of ours.
+func TestP4MovesThatCannotBe(t *testing.T) {
+	one, err := record.NewSaga(1, steps(2, "one"))
+	is(t, "a saga", err, api.OK)
+	done, later, never := record.Move{Id: 1, Reply: api.Done}.Block(), record.Move{Id: 1, Reply: api.Later}.Block(), record.Move{Id: 1, Reply: api.Never}.Block()
+	for name, c := range map[string]struct {
+		l    []record.Block
+		want api.Errno
+	}{
+		"done":                    {[]record.Block{one.Block(), done, done}, api.OK},
+		"refused":                 {[]record.Block{one.Block(), done, never, done}, api.OK},
+		"no saga":                 {[]record.Block{done}, api.ErrCorrupt},
+		"another saga":            {[]record.Block{one.Block(), record.Move{Id: 2}.Block()}, api.ErrCorrupt},
+		"ahead of its saga":       {[]record.Block{done, one.Block()}, api.ErrCorrupt},
+		"a reply that moves not":  {[]record.Block{one.Block(), later}, api.ErrCorrupt},
+		"done behind the end":     {[]record.Block{one.Block(), done, done, done}, api.ErrCorrupt},
+		"refused behind the end":  {[]record.Block{one.Block(), done, done, never}, api.ErrCorrupt},
+		"taking back is refused":  {[]record.Block{one.Block(), done, never, never}, api.ErrCorrupt},
+		"done behind the refusal": {[]record.Block{one.Block(), never, done}, api.ErrCorrupt},
+	} {
+		d := formatted(t, 8)
+		for i, b := range c.l {
+			if err := d.Write(1+i, b[:]); err != nil {
+				t.Fatal(err)
+			}
+		}
+		found(t, "P4: Open: "+name, d, c.want)
 	}
 }

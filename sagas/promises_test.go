@@ -30,6 +30,9 @@ func TestP1TheErrorNamedFirst(t *testing.T) {
 // An error says in which call something was wrong.
 func TestP1ErrorsWrapWhatIsWrong(t *testing.T) {
 	x := opened(t, formatted(t, 8))
+	d := filled(t, 8)
+	y := opened(t, d)
+	d.Off(0)
 	_, none := x.Status(1)
 	_, config := sagas.Open(formatted(t, 8), 0, nil)
 	_, size := sagas.Open(api.NewDisk(7), 1, nil)
@@ -38,6 +41,7 @@ func TestP1ErrorsWrapWhatIsWrong(t *testing.T) {
 		"Open":   {config, size},
 		"Submit": {x.Submit(0, nil), x.Submit(1, steps(6, ""))},
 		"Status": {none},
+		"Tick":   {y.Tick(), y.Tick()},
 	} {
 		for _, err := range l {
 			var f *api.Fault
@@ -52,9 +56,15 @@ func TestP1ErrorsWrapWhatIsWrong(t *testing.T) {
 func TestP1AnyErrorOfTheDeviceIsErrIO(t *testing.T) {
 	var none *api.Fault
 	for _, told := range []error{api.OK, api.ErrSize, api.ErrNone, api.Errno(77), &api.Fault{Op: "x", E: api.OK}, none, loop{}} {
-		for at := range 5 {
+		for at := range 9 {
 			d := &odd{Disk: formatted(t, 8)}
-			x := opened(t, d)
+			x := always(api.Done).opens(t, d, 4)
+			if at > 4 {
+				submit(t, x, 1, steps(1, "a"))
+			}
+			if at > 6 {
+				x = always(api.Done).opens(t, d, 4)
+			}
 			switch at {
 			case 0:
 				d.read = func(i int) ([]byte, error) { return nil, told }
@@ -71,6 +81,12 @@ func TestP1AnyErrorOfTheDeviceIsErrIO(t *testing.T) {
 			case 4:
 				d.flush = func() error { return told }
 				is(t, "P1: Submit", x.Submit(1, steps(1, "a")), api.ErrIO)
+			case 5, 7:
+				d.write = func(i int, b []byte) error { return told }
+				is(t, "P1: Tick", x.Tick(), api.ErrIO)
+			case 6, 8:
+				d.flush = func() error { return told }
+				is(t, "P1: Tick", x.Tick(), api.ErrIO)
 			}
 		}
 	}
@@ -122,7 +138,9 @@ func TestP1NoBlockThatIsNotThere(t *testing.T) {
 			continue
 		}
 		for id := 1; id <= n; id++ {
-			_ = opened(t, d).Submit(id, steps(1, "fill"))
+			x := refuses(id%3).opens(t, d, 4)
+			_ = x.Submit(id, steps(1+id%2, "fill"))
+			is(t, "P6: Tick", x.Tick(), api.OK)
 		}
 	}
 }
@@ -155,6 +173,23 @@ func TestP1NothingIsThrown(t *testing.T) {
 	x := opened(t, d)
 	is(t, "P1: Submit to a device that panics", x.Submit(1, steps(1, "a")), api.ErrIO)
 	is(t, "P8: behind it", x.Submit(1, steps(1, "a")), api.ErrFailed)
+	for at := range 4 {
+		disk := filled(t, 8)
+		d := &odd{Disk: disk}
+		x := always(api.Done).opens(t, d, 4)
+		made := 0
+		throws := func(err error) error {
+			made++
+			if made > at {
+				panic(api.OK)
+			}
+			return err
+		}
+		d.write = func(i int, b []byte) error { return throws(disk.Write(i, b)) }
+		d.flush = func() error { return throws(disk.Flush()) }
+		is(t, "P1: Tick on a device that panics", x.Tick(), api.ErrIO)
+		failed(t, "P8: behind it", x)
+	}
 }
 
 func TestP1AnyPartnerWillDo(t *testing.T) {
@@ -176,7 +211,9 @@ func TestP2WhatIsReadIsNotWrittenInto(t *testing.T) {
 		own, was = append(own, b), append(was, bytes.Clone(b))
 	}
 	d := &odd{Disk: full, read: func(i int) ([]byte, error) { return own[i], nil }}
-	_ = opened(t, d).Submit(7, steps(1, "new"))
+	x := always(api.Done).opens(t, d, 4)
+	_ = x.Submit(7, steps(1, "new"))
+	is(t, "P6: Tick", x.Tick(), api.OK)
 	format(t, d)
 	for i := range own {
 		if !bytes.Equal(own[i], was[i]) {
@@ -194,7 +231,11 @@ func TestP2WhatIsWrittenIsTheDevicesOwn(t *testing.T) {
 		return d.Disk.Write(i, b)
 	}
 	format(t, d)
-	submit(t, opened(t, d), 1, steps(6, "kept"))
+	x := always(api.Done).opens(t, d, 4)
+	submit(t, x, 1, steps(6, "kept"))
+	for range 6 {
+		is(t, "P6: Tick", x.Tick(), api.OK)
+	}
 	for i := range kept {
 		if !bytes.Equal(kept[i], was[i]) {
 			t.Errorf("P2: what was handed to write %d is written into later", i)
@@ -212,10 +253,13 @@ func TestP2WhatIsWrittenIsTheDevicesOwn(t *testing.T) {
 	if d.Bytes() != formatted(t, 20).Bytes() {
 		t.Error("P2: what a device writes into what it was handed is laid down")
 	}
-	x := opened(t, d)
+	x = always(api.Done).opens(t, d, 4)
 	submit(t, x, 1, steps(6, "kept"))
-	holds(t, "P2: behind a device that writes into what it is handed", x, 1, steps(6, "kept"))
-	holds(t, "P2: another engine", opened(t, d), 1, steps(6, "kept"))
+	is(t, "P6: Tick", x.Tick(), api.OK)
+	for _, y := range []*sagas.Engine{x, opened(t, d)} {
+		holds(t, "P2: behind a device that writes into what it is handed", y, 1, steps(6, "kept"))
+		tells(t, "P2: behind a device that writes into what it is handed", y, api.Status{Id: 1, State: api.Running, Step: 2, Steps: 6})
+	}
 }
 
 func TestP2StepsAreNotWrittenIntoOrKept(t *testing.T) {

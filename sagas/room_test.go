@@ -52,13 +52,27 @@ func TestP9OneBlockLess(t *testing.T) {
 	}
 }
 
-// Sagas of all sizes, each one as soon as there is room for it by P9.
-func TestP9SagasOfAllSizes(t *testing.T) {
-	for seed := range uint64(40) {
+// P9: with just the room that it names, all sagas come to their ends, done and taken back, whatever fails on the way.
+func TestP9AllSagasComeToTheirEnds(t *testing.T) {
+	for n := 1; n <= api.MaxSteps; n++ {
+		for refused := range n + 1 {
+			for k := 1; least+k*named(n) <= api.MaxBlocks; k += 1 + k/2 {
+				s := empty(t, max(api.MinBlocks, least+k*named(n)), refuses(refused))
+				for id := 1; id <= k; id++ {
+					s.submit(t, id, steps(n, "room"))
+				}
+				s.ends(t, "P9: all come to their ends")
+			}
+		}
+	}
+}
+
+// Sagas of all sizes, each one as soon as there is room for it by P9, while the others stand anywhere, with other engines on the way.
+func TestP9SagasOfAllSizesComeToTheirEnds(t *testing.T) {
+	for seed := range uint64(60) {
 		next := pattern(seed)
 		size := api.MinBlocks + next(api.MaxBlocks-api.MinBlocks+1)
-		d := formatted(t, size)
-		x := opened(t, d)
+		s := empty(t, size, anyhow(next))
 		used := least
 		for id := api.MaxId; id > 0; id-- {
 			n := 1 + next(api.MaxSteps)
@@ -66,11 +80,41 @@ func TestP9SagasOfAllSizes(t *testing.T) {
 				break
 			}
 			used += named(n)
-			submit(t, x, id, steps(n, "mixed"))
-			if next(3) == 0 {
-				x = opened(t, d)
+			s.submit(t, id, steps(n, "mixed"))
+			for range next(3) {
+				s.tick(t, "P9: sagas of all sizes")
+			}
+			if next(4) == 0 {
+				s = s.anew(t)
 			}
 		}
+		s.p.rule = refuses(1 + next(api.MaxSteps)).rule
+		s.ends(t, "P9: sagas of all sizes")
+	}
+}
+
+// A device that is full to its last block, by P5 and not only by P9: all its sagas come to their ends, by the longest ways.
+func TestP9AFullDeviceComesToItsEnds(t *testing.T) {
+	for _, size := range []int{8, 9, 20, 31, 100, 400} {
+		last := &partner{}
+		d := filled(t, size)
+		x := last.opens(t, d, 1)
+		o := newCourse(1, map[int]place{})
+		for _, s := range plain.All(x, api.MaxId) {
+			o.places[s.Id] = start(steps(s.Steps, "full"))
+		}
+		last.rule = func(c api.Call) int {
+			if !c.Back && c.Step == len(o.places[c.Saga].steps) {
+				return api.Never
+			}
+			return api.Done
+		}
+		o.runs(t, "P9: a full device", x, last, 2*api.MaxSteps)
+		if !o.over() {
+			t.Errorf("P9: a full device of %d blocks: %v", size, o.told())
+		}
+		tells(t, "P9: another engine on a full device", opened(t, d.After(nil)), newCourse(1, o.places).told()...)
+		is(t, "P5: a full device stays full", opened(t, d).Submit(1, steps(6, "more")), api.ErrFull)
 	}
 }
 

@@ -23,6 +23,7 @@ type Engine struct {
 	journal *journal.Journal
 	roll    *roll.Roll
 	failed  bool // the device told an error: what it holds is not known any more
+	clock   int
 	pause   int
 	call    func(c api.Call) int
 }
@@ -37,7 +38,7 @@ func Open(d api.Device, pause int, call func(c api.Call) int) (*Engine, error) {
 		return nil, wrapped("Open", err)
 	}
 	r := roll.New(journal.Room(v))
-	j, err := journal.Find(v, r.Take)
+	j, err := journal.Find(v, r.Take, r.Move)
 	if err != nil {
 		return nil, wrapped("Open", err)
 	}
@@ -66,16 +67,79 @@ func (x *Engine) submit(id int, steps []api.Step) error {
 	if !x.roll.Fits(s) {
 		return api.ErrFull
 	}
-	if err := x.journal.Add(s.Block()); err != nil {
-		x.failed = true
+	if err := x.checked(x.journal.Add(s.Block())); err != nil {
 		return err
 	}
 	x.roll.Take(s)
 	return nil
 }
 
+// checked hands an error of the journal on. Behind one the engine has failed.
+func (x *Engine) checked(err error) error {
+	if err != nil {
+		x.failed = true
+	}
+	return err
+}
+
 // Tick is one tick of the clock (P6).
-func (x *Engine) Tick() error { return nil }
+func (x *Engine) Tick() error {
+	return wrapped("Tick", x.tick())
+}
+
+func (x *Engine) tick() error {
+	if x.failed {
+		return api.ErrFailed
+	}
+	x.clock++
+	for _, s := range x.roll.Statuses() {
+		if c, due := x.roll.Next(s.Id, x.clock); due {
+			if err := x.ask(c); err != nil {
+				return err
+			}
+		}
+	}
+	return nil
+}
+
+// ask asks the partner for something, and does what its reply says.
+func (x *Engine) ask(c api.Call) error {
+	if err := x.checked(x.journal.Settle()); err != nil {
+		return err
+	}
+	reply := x.reply(c)
+	// The partner may have called the engine meanwhile: then this reply may have come too late.
+	if x.failed {
+		return api.ErrFailed
+	}
+	if next, _ := x.roll.Next(c.Saga, x.clock); next != c {
+		return nil
+	}
+	return x.follow(record.Move{Id: c.Saga, Reply: reply})
+}
+
+// reply is what the partner says. From one that panics nothing is known: it is asked again.
+func (x *Engine) reply(c api.Call) (said int) {
+	defer func() {
+		if recover() != nil {
+			said = api.Later
+		}
+	}()
+	return x.call(c)
+}
+
+// follow makes sure of a move ahead of anything else; a reply that moves nothing puts the saga off.
+func (x *Engine) follow(m record.Move) error {
+	if !x.roll.Moves(m) {
+		x.roll.PutOff(m.Id, x.clock, x.pause)
+		return nil
+	}
+	if err := x.checked(x.journal.Add(m.Block())); err != nil {
+		return err
+	}
+	x.roll.Move(m)
+	return nil
+}
 
 // Status tells of a saga (P7).
 func (x *Engine) Status(id int) (api.Status, error) {
